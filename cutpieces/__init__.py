@@ -1,0 +1,1 @@
+"""Texts by their pieces: the calls are in cutpieces.desk."""
