@@ -1,4 +1,4 @@
-"""Texts by their pieces: how many texts may have been cut into the pieces at hand.
+"""Texts by their pieces: how many texts may have been cut into the pieces at hand, and which.
 
 A piece is a street from its beginning (all letters but the last) to its end (all letters but the first).
 A text is then a way that uses each street once. The same piece twice is two streets between the same
@@ -7,6 +7,7 @@ point says all that is to be known of the pieces.
 """
 
 NOT_AS_TOLD = -22
+NO_SUCH_NUMBER = -33
 MOST_PIECES = 64
 LEAST_LENGTH = 2
 MOST_LENGTH = 48
@@ -17,6 +18,15 @@ def tp_many(k, pieces):
     if not pieces_are_as_told(k, pieces):
         return [NOT_AS_TOLD]
     return [0, count_texts(street_table(pieces))]
+
+
+def tp_text(k, number, pieces):
+    if not pieces_are_as_told(k, pieces):
+        return [NOT_AS_TOLD]
+    many = count_texts(street_table(pieces))
+    if number >= many:
+        return [NO_SUCH_NUMBER]
+    return [0] + text_of_number(number, many, pieces)
 
 
 def pieces_are_as_told(k, pieces):
@@ -134,3 +144,66 @@ def factorial(number):
     for factor in range(2, number + 1):
         product *= factor
     return product
+
+
+def text_of_number(number, many, pieces):
+    # In the order of texts those with the same first point stand together, and the points are in order too.
+    points = sorted(set([beginning_of(piece) for piece in pieces]))
+    counts = [count_from(point, many, pieces) for point in points]
+    group = group_of(number, counts)
+    return list(points[group]) + letters_onward(points[group], number - sum(counts[:group]), pieces)
+
+
+def letters_onward(start, number, pieces):
+    # The number is always that among the texts which begin as the letters so far do.
+    letters = []
+    point = start
+    left = number
+    rest = [tuple(piece) for piece in pieces]
+    while len(rest) > 0:
+        choices = choices_at(point, rest)
+        counts = [count_behind(piece, rest) for piece in choices]
+        group = group_of(left, counts)
+        left -= sum(counts[:group])
+        letters.append(choices[group][-1])
+        point = end_of(choices[group])
+        rest = without_piece(rest, choices[group])
+    return letters
+
+
+def choices_at(point, pieces):
+    # The same piece twice is one choice: it makes no difference to the text which of the two is laid first.
+    return sorted(set([piece for piece in pieces if beginning_of(piece) == point]))
+
+
+def group_of(number, counts):
+    group = 0
+    passed = counts[0]
+    while passed <= number:
+        group += 1
+        passed += counts[group]
+    return group
+
+
+def count_behind(piece, pieces):
+    rest = without_piece(pieces, piece)
+    if len(rest) == 0:
+        # The table of no streets has no points, but there is one way to lay nothing.
+        return 1
+    return count_from(end_of(piece), count_texts(street_table(rest)), rest)
+
+
+def count_from(point, many, pieces):
+    # How many of the texts that have the pieces (there are as many as told) have this first point.
+    beginnings = [beginning_of(piece) for piece in pieces]
+    ends = [end_of(piece) for piece in pieces]
+    if sorted(beginnings) == sorted(ends):
+        # Each round may be begun at any of its streets, so each street is the first of equally many.
+        return many * beginnings.count(point) // len(pieces)
+    # Else all texts have the same first point: the one where more pieces begin than end.
+    return many if beginnings.count(point) > ends.count(point) else 0
+
+
+def without_piece(pieces, piece):
+    place = pieces.index(piece)
+    return pieces[:place] + pieces[place + 1:]
