@@ -1,4 +1,4 @@
-"""Texts by their pieces: how many texts may have been cut into the pieces at hand, and which.
+"""Texts by their pieces: how a text is cut, how many texts may have been cut into the pieces at hand, and which.
 
 A piece is a street from its beginning (all letters but the last) to its end (all letters but the first).
 A text is then a way that uses each street once. The same piece twice is two streets between the same
@@ -29,12 +29,44 @@ def tp_text(k, number, pieces):
     return [0] + text_of_number(number, many, pieces)
 
 
+def tp_cut(k, text):
+    if not text_is_as_told(k, text):
+        return [NOT_AS_TOLD]
+    many = count_pieces(k, text)
+    answer = [many]
+    for place in range(many):
+        answer.extend(text[place:place + k])
+    return answer
+
+
 def pieces_are_as_told(k, pieces):
-    if len(pieces) < 1 or len(pieces) > MOST_PIECES:
+    if not length_is_as_told(k) or not amount_is_as_told(len(pieces)):
         return False
-    if k < LEAST_LENGTH or k > MOST_LENGTH:
+    return all([letters_are_as_told(piece) for piece in pieces])
+
+
+def text_is_as_told(k, text):
+    # A text of k to 63 + k letters is one of 1 to 64 pieces: the bounds are those of the pieces themselves.
+    if not length_is_as_told(k) or not amount_is_as_told(count_pieces(k, text)):
         return False
-    return all([max(piece) <= MOST_LETTER for piece in pieces])
+    return letters_are_as_told(text)
+
+
+def length_is_as_told(k):
+    return k >= LEAST_LENGTH and k <= MOST_LENGTH
+
+
+def amount_is_as_told(many):
+    return many >= 1 and many <= MOST_PIECES
+
+
+def letters_are_as_told(letters):
+    return max(letters) <= MOST_LETTER
+
+
+def count_pieces(k, text):
+    # Below 1 if the text is too short to have a piece.
+    return len(text) - k + 1
 
 
 def beginning_of(piece):

@@ -1,5 +1,8 @@
-"""Plain ways to cut, to count and to list texts, to hold the program against."""
+"""Plain ways to cut, to count and to list texts, to hold the program against, and checks of every function's calls."""
 
+import contextlib
+import copy
+import io
 from collections import Counter
 from functools import lru_cache
 from itertools import product
@@ -8,6 +11,11 @@ from math import factorial
 
 def cut(k, text):
     return [list(text[place:place + k]) for place in range(len(text) - k + 1)]
+
+
+def split(k, numbers):
+    """The pieces that stand one behind another without lengths."""
+    return [numbers[place:place + k] for place in range(0, len(numbers), k)]
 
 
 def heap(pieces):
@@ -139,7 +147,7 @@ def heaps_of_too_many_pieces():
 
 
 def heaps_of_lengths_not_allowed():
-    for k in (0, 1, 49, 4294967295):
+    for k in (0, 1, 49, 50, 258, 65538, 2147483650, 4294967295):
         for pieces in ([[]], [[255] * 60], [[0, 1]], [[0, 1], [], [4], [1, 2, 3]], [[0] * 48] * 64):
             yield k, pieces
         if k < 50:
@@ -165,8 +173,61 @@ class Unchanging(list):
     __setitem__ = __delitem__ = __iadd__ = __imul__ = refuse
 
 
-def guarded(pieces):
-    return Unchanging(Unchanging(piece) for piece in pieces)
+def guarded(thing):
+    """The same lists within lists, none of which takes a change."""
+    return Unchanging(guarded(inner) for inner in thing) if isinstance(thing, list) else thing
+
+
+class Unseen(Unchanging):
+    """A list that must not be looked at."""
+
+    def hide(self, *args):
+        raise AssertionError("what is not to be looked at was looked at")
+
+    __len__ = __getitem__ = __iter__ = __reversed__ = __contains__ = __eq__ = __add__ = __mul__ = count = index = hide
+
+
+class NothingChangedNothingKept:
+    """What holds for every function; a test class names the function and calls of it, what it's handed in each."""
+
+    function = None
+    calls = ()
+
+    def test_what_is_handed_in_is_the_same_afterwards(self):
+        for call in self.calls:
+            before = copy.deepcopy(call)
+            self.function(*call)
+            self.assertEqual(call, before)
+
+    def test_what_is_handed_in_is_not_changed_for_a_while(self):
+        for call in self.calls:
+            self.assertEqual(self.function(*[guarded(thing) for thing in call]), self.function(*call))
+
+    def test_a_second_call_answers_as_the_first(self):
+        first = [self.function(*call) for call in self.calls]
+        again = [self.function(*call) for call in reversed(self.calls)]
+        self.assertEqual(first, again[::-1])
+
+    def test_a_changed_answer_does_not_come_back(self):
+        for call in self.calls:
+            answer = self.function(*call)
+            kept = list(answer)
+            answer.append(5)
+            answer[0] = 77
+            self.assertEqual(self.function(*call), kept)
+
+    def test_answers_are_lists_of_whole_numbers(self):
+        for call in self.calls:
+            answer = self.function(*call)
+            self.assertIs(type(answer), list)
+            self.assertEqual([type(number) for number in answer], [int] * len(answer))
+
+    def test_it_prints_nothing(self):
+        out, err = io.StringIO(), io.StringIO()
+        with contextlib.redirect_stdout(out), contextlib.redirect_stderr(err):
+            for call in self.calls:
+                self.function(*call)
+        self.assertEqual((out.getvalue(), err.getvalue()), ("", ""))
 
 
 class Draws:

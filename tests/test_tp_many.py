@@ -1,6 +1,3 @@
-import contextlib
-import copy
-import io
 import os
 import sys
 import unittest
@@ -10,7 +7,7 @@ from math import comb
 sys.path.insert(0, os.path.dirname(os.path.abspath(__file__)))
 
 from cutpieces.desk import tp_many
-from plain import (Draws, as_lists, count_by_steps, cut, guarded, heaps_of_lengths_not_allowed,
+from plain import (Draws, NothingChangedNothingKept, as_lists, count_by_steps, cut, heaps_of_lengths_not_allowed,
                    heaps_of_too_many_pieces, heaps_with_a_letter_above_3, multinomial, texts_by_heap)
 
 
@@ -206,7 +203,8 @@ class Refusals(unittest.TestCase):
         self.assertEqual(tp_many(2, [[0, 0], [1, 1], [2, 4]]), [-22])
 
 
-class NothingChangedNothingKept(unittest.TestCase):
+class Calls(NothingChangedNothingKept, unittest.TestCase):
+    function = staticmethod(tp_many)
     calls = (
         (2, cut(2, [0, 1, 0, 2, 0, 1, 1, 3])),
         (2, cut(2, [0, 1, 2, 0])),
@@ -217,44 +215,8 @@ class NothingChangedNothingKept(unittest.TestCase):
         (2, []),
     )
 
-    def test_what_is_handed_in_is_the_same_afterwards(self):
-        for k, pieces in self.calls:
-            before = copy.deepcopy(pieces)
-            tp_many(k, pieces)
-            self.assertEqual(pieces, before)
-
-    def test_what_is_handed_in_is_not_changed_for_a_while(self):
-        for k, pieces in self.calls:
-            self.assertEqual(tp_many(k, guarded(pieces)), tp_many(k, pieces))
-
-    def test_a_second_call_answers_as_the_first(self):
-        first = [tp_many(k, pieces) for k, pieces in self.calls]
-        again = [tp_many(k, pieces) for k, pieces in reversed(self.calls)]
-        self.assertEqual(first, again[::-1])
-
-    def test_a_changed_answer_does_not_come_back(self):
-        for k, pieces in self.calls:
-            answer = tp_many(k, pieces)
-            kept = list(answer)
-            answer.append(5)
-            answer[0] = 77
-            self.assertEqual(tp_many(k, pieces), kept)
-
-    def test_answers_are_lists_of_whole_numbers(self):
-        for k, pieces in self.calls:
-            answer = tp_many(k, pieces)
-            self.assertIs(type(answer), list)
-            self.assertEqual([type(number) for number in answer], [int] * len(answer))
-
     def test_arguments_go_by_their_names(self):
         self.assertEqual(tp_many(k=2, pieces=[[0, 1], [1, 0]]), [0, 2])
-
-    def test_it_prints_nothing(self):
-        out, err = io.StringIO(), io.StringIO()
-        with contextlib.redirect_stdout(out), contextlib.redirect_stderr(err):
-            for k, pieces in self.calls:
-                tp_many(k, pieces)
-        self.assertEqual((out.getvalue(), err.getvalue()), ("", ""))
 
 
 if __name__ == "__main__":

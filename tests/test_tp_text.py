@@ -1,6 +1,3 @@
-import contextlib
-import copy
-import io
 import os
 import sys
 import time
@@ -11,7 +8,7 @@ from math import comb
 sys.path.insert(0, os.path.dirname(os.path.abspath(__file__)))
 
 from cutpieces.desk import tp_many, tp_text
-from plain import (Draws, amounts_of, as_lists, cut, guarded, heap, heaps_of_lengths_not_allowed,
+from plain import (Draws, NothingChangedNothingKept, amounts_of, as_lists, cut, heap, heaps_of_lengths_not_allowed,
                    heaps_of_too_many_pieces, heaps_with_a_letter_above_3, list_by_steps, multinomial,
                    number_by_steps, outermost_text, step_counter, texts_by_heap)
 
@@ -321,7 +318,8 @@ class Refusals(unittest.TestCase):
         self.check_refused(2, [[0, 0], [1, 1], [2, 4]])
 
 
-class NothingChangedNothingKept(unittest.TestCase):
+class Calls(NothingChangedNothingKept, unittest.TestCase):
+    function = staticmethod(tp_text)
     calls = (
         (2, 1, cut(2, [0, 1, 0, 2, 0, 1, 1, 3])),
         (2, 0, cut(2, [0, 1, 0, 2, 0, 1, 1, 3])),
@@ -336,50 +334,14 @@ class NothingChangedNothingKept(unittest.TestCase):
         (2, 0, []),
     )
 
-    def test_what_is_handed_in_is_the_same_afterwards(self):
-        for k, number, pieces in self.calls:
-            before = copy.deepcopy(pieces)
-            tp_text(k, number, pieces)
-            self.assertEqual(pieces, before)
-
-    def test_what_is_handed_in_is_not_changed_for_a_while(self):
-        for k, number, pieces in self.calls:
-            self.assertEqual(tp_text(k, number, guarded(pieces)), tp_text(k, number, pieces))
-
-    def test_a_second_call_answers_as_the_first(self):
-        first = [tp_text(*call) for call in self.calls]
-        again = [tp_text(*call) for call in reversed(self.calls)]
-        self.assertEqual(first, again[::-1])
-
     def test_changed_pieces_are_looked_at_anew(self):
         pieces = [[0, 1], [1, 2]]
         self.assertEqual(tp_text(2, 0, pieces), [0, 0, 1, 2])
         pieces[1][1] = 3
         self.assertEqual(tp_text(2, 0, pieces), [0, 0, 1, 3])
 
-    def test_a_changed_answer_does_not_come_back(self):
-        for call in self.calls:
-            answer = tp_text(*call)
-            kept = list(answer)
-            answer.append(5)
-            answer[0] = 77
-            self.assertEqual(tp_text(*call), kept)
-
-    def test_answers_are_lists_of_whole_numbers(self):
-        for call in self.calls:
-            answer = tp_text(*call)
-            self.assertIs(type(answer), list)
-            self.assertEqual([type(number) for number in answer], [int] * len(answer))
-
     def test_arguments_go_by_their_names(self):
         self.assertEqual(tp_text(k=2, number=1, pieces=[[0, 1], [1, 0]]), [0, 1, 0, 1])
-
-    def test_it_prints_nothing(self):
-        out, err = io.StringIO(), io.StringIO()
-        with contextlib.redirect_stdout(out), contextlib.redirect_stderr(err):
-            for call in self.calls:
-                tp_text(*call)
-        self.assertEqual((out.getvalue(), err.getvalue()), ("", ""))
 
 
 if __name__ == "__main__":
